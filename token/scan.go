@@ -176,8 +176,8 @@ func (s *scanner) repeat(least, most int) api.Token {
 // name is a NAME; the > behind it is taken too.
 func (s *scanner) name() string {
 	begin := s.at
-	for {
-		c, size := s.octet(), s.at-1-begin
+	for size := 0; ; size++ {
+		c := s.octet() // a statement of its own: it moves s.at on, and Go leaves open which of two operands is read first
 		switch {
 		case c == '>' && size > 0:
 			return string(s.p[begin : s.at-1])
